@@ -1,0 +1,1 @@
+"""Named parts in one container file."""

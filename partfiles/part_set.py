@@ -1,0 +1,83 @@
+"""A set of named parts, and what it answers to the calls."""
+
+from partfiles.saving import container_bytes, part_bytes
+
+MOST_NAME_BYTES = 64
+LEAST_NAME_BYTE = 33
+MOST_NAME_BYTE = 126
+MOST_PART_BYTES = 65536
+MOST_PARTS = 64
+
+DONE = 0
+NOT_TAKEN = -1
+NO_SUCH_PART = -2
+TOO_MANY_PARTS = -5
+
+
+def is_name(name):
+    if len(name) < 1 or len(name) > MOST_NAME_BYTES:
+        return False
+    return min(name) >= LEAST_NAME_BYTE and max(name) <= MOST_NAME_BYTE
+
+
+def told(data):
+    return [DONE, len(data)] + data
+
+
+class Part:
+
+    def __init__(self, name, data):
+        self.name = name
+        self.data = data
+        self.saved = None
+
+    # Packing is the slow step and saves may be many: it is done once for a part, and not before a save.
+    def saved_bytes(self):
+        if self.saved is None:
+            self.saved = part_bytes(self.name, self.data)
+        return self.saved
+
+
+class PartSet:
+
+    def __init__(self):
+        self.parts = {}
+
+    def begin(self):
+        self.parts = {}
+        return [DONE]
+
+    def put(self, name, data):
+        if not is_name(name) or len(data) > MOST_PART_BYTES:
+            return [NOT_TAKEN]
+        key = tuple(name)
+        if key not in self.parts and len(self.parts) >= MOST_PARTS:
+            return [TOO_MANY_PARTS]
+        self.parts[key] = Part(key, data)
+        return [DONE]
+
+    def drop(self, name):
+        key = tuple(name)
+        if key not in self.parts:
+            return [NO_SUCH_PART]
+        self.parts.pop(key)
+        return [DONE]
+
+    def fetch(self, name):
+        key = tuple(name)
+        if key not in self.parts:
+            return [NO_SUCH_PART]
+        return told(self.parts[key].data)
+
+    def names(self):
+        answer = [len(self.parts)]
+        for key in sorted(self.parts):
+            answer.append(len(key))
+            answer.extend(key)
+        return answer
+
+    def save(self):
+        saved_parts = []
+        for key in sorted(self.parts):
+            saved_parts.append(self.parts[key].saved_bytes())
+        return told(container_bytes(saved_parts))
