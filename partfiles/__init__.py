@@ -1,1 +1,1 @@
-"""Named parts in one container file."""
+"""Named parts in one container file, and tables as separated values."""

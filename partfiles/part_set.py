@@ -1,27 +1,11 @@
 """A set of named parts, and what it answers to the calls."""
 
+from partfiles.faults import ContainerFault
+from partfiles.limits import MOST_BYTES, MOST_PARTS
+from partfiles.loading import loaded_parts
+from partfiles.part_names import is_name
+from partfiles.replies import DONE, NO_SUCH_PART, NOT_TAKEN, TOO_MANY_PARTS, told, told_fault
 from partfiles.saving import container_bytes, part_bytes
-
-MOST_NAME_BYTES = 64
-LEAST_NAME_BYTE = 33
-MOST_NAME_BYTE = 126
-MOST_PART_BYTES = 65536
-MOST_PARTS = 64
-
-DONE = 0
-NOT_TAKEN = -1
-NO_SUCH_PART = -2
-TOO_MANY_PARTS = -5
-
-
-def is_name(name):
-    if len(name) < 1 or len(name) > MOST_NAME_BYTES:
-        return False
-    return min(name) >= LEAST_NAME_BYTE and max(name) <= MOST_NAME_BYTE
-
-
-def told(data):
-    return [DONE, len(data)] + data
 
 
 class Part:
@@ -48,7 +32,7 @@ class PartSet:
         return [DONE]
 
     def put(self, name, data):
-        if not is_name(name) or len(data) > MOST_PART_BYTES:
+        if not is_name(name) or len(data) > MOST_BYTES:
             return [NOT_TAKEN]
         key = tuple(name)
         if key not in self.parts and len(self.parts) >= MOST_PARTS:
@@ -81,3 +65,14 @@ class PartSet:
         for key in sorted(self.parts):
             saved_parts.append(self.parts[key].saved_bytes())
         return told(container_bytes(saved_parts))
+
+    def load(self, data):
+        try:
+            loaded = loaded_parts(data)
+        except ContainerFault as e:
+            return told_fault(e.fault, e.place)
+        self.parts = {}
+        for part in loaded:
+            key = tuple(part.name)
+            self.parts[key] = Part(key, part.data)
+        return [len(loaded)]

@@ -1,6 +1,8 @@
 """Building lists of calls, and the document's words told once more in the plainest way."""
 
+import re
 import unittest
+import zlib
 
 from partfiles.files import answers
 
@@ -43,6 +45,30 @@ def drop(name):
 
 def get(name):
     return [3, 0, 1] + counted(as_bytes(name))
+
+
+def open_parts(data):
+    return [6, 0, 1] + counted(data)
+
+
+def pack_bytes(data):
+    return [7, 0, 1] + counted(as_bytes(data))
+
+
+def unpack_bytes(most, orders):
+    return [8, 1, most, 1] + counted(orders)
+
+
+def read_table(separator, text):
+    return [9, 1, separator, 1] + counted(as_bytes(text))
+
+
+def write_table(separator, both, rows):
+    fields = [as_bytes(field) for row in rows for field in row]
+    call = [10, 2, separator, both, 1 + len(fields)] + counted([len(row) for row in rows])
+    for field in fields:
+        call += counted(field)
+    return call
 
 
 def split_answers(answered):
@@ -98,6 +124,38 @@ def parts_of(container):
     if place + 4 != len(container):
         raise ValueError("the parts don't end where the sum begins")
     return found
+
+
+def low_first(number, how_many):
+    return list(number.to_bytes(how_many, "little"))
+
+
+def part_form(name, data, **other):
+    """A part as it stands in a container, not packed; what other tells stands in the place of what's right."""
+    name, data = as_bytes(name), as_bytes(data)
+    stands = other.get("stands", data)
+    form = [other.get("name_length", len(name))] + name + [other.get("packed", 0)]
+    form += low_first(other.get("length", len(data)), 4) + low_first(other.get("here", len(stands)), 4)
+    return form + low_first(other.get("own_sum", zlib.crc32(bytes(data))), 4) + stands
+
+
+def packed_form(name, data, **other):
+    """A part as it stands in a container, packed in whatever way."""
+    stands = other["stands"] if "stands" in other else plain_pack(as_bytes(data))
+    return part_form(name, data, **{"packed": 1, **other, "stands": stands})
+
+
+def run_orders(byte, how_many):
+    """Orders for so many of this byte (130 times some, and 4 or more): plain_pack takes long for long runs."""
+    return [0, byte] + [255, 0, 0] * ((how_many - 1) // 130) + [(how_many - 1) % 130 + 125, 0, 0]
+
+
+def container_form(*parts, count=None, other_sum=0, behind=()):
+    """A container with these parts, the sum of all other by the bits that are told."""
+    form = as_bytes("WBK1") + low_first(len(parts) if count is None else count, 2)
+    for part in parts:
+        form += part
+    return form + low_first(zlib.crc32(bytes(form)) ^ other_sum, 4) + list(behind)
 
 
 def stands_for(data):
@@ -161,6 +219,53 @@ def plain_unpack(orders):
                 data.append(data[-back])
             place += 3
     return data
+
+
+def told_table(rows):
+    """What read answers where the table is this one."""
+    answer = [len(rows)]
+    for row in rows:
+        answer.append(len(row))
+        for field in row:
+            answer += counted(as_bytes(field))
+    return answer
+
+
+QUOTED = re.compile(rb'"((?:[^"]|"")*)"(?!")')
+
+
+def plain_read(separator, text):
+    """What read answers to this text, by patterns."""
+    between = bytes([separator])
+    unquoted = re.compile(rb'[^"\r\n' + re.escape(between) + rb']*')
+    rows, row, place = [], [], 0
+    while place < len(text) or row:
+        in_quotes = text[place:place + 1] == b'"'
+        found = (QUOTED if in_quotes else unquoted).match(text, place)
+        if not found:
+            return [-3, 4, place]
+        row.append(found[1].replace(b'""', b'"') if in_quotes else found[0])
+        place = found.end()
+        behind = re.compile(re.escape(between) + rb"|\r?\n|\Z").match(text, place)
+        if not behind:
+            return [-3, 2 if in_quotes else 1 if text[place:place + 1] == b'"' else 3, place]
+        if behind[0] != between:
+            rows.append(row)
+            row = []
+        place = behind.end()
+    return told_table(rows)
+
+
+def plain_write(separator, both, rows):
+    """The bytes of a table, as the document tells it."""
+    between, text = bytes([separator]), b""
+    for row in rows:
+        fields = [bytes(as_bytes(field)) for field in row]
+        quoted = [b'"' + field.replace(b'"', b'""') + b'"' for field in fields]
+        text += between.join(
+            inside if set(field) & {separator, 34, 10, 13} else field for field, inside in zip(fields, quoted))
+        text += b"\r\n" if both else b"\n"
+    return list(text)
 
 
 def no_three_twice(how_many):

@@ -30,6 +30,11 @@ WORDS_OUT = re.compile(
     r"\b(type|typing|typing_extensions|enum|Enum|IntEnum|StrEnum|Flag|IntFlag|Generic|Protocol|ABC|ABCMeta|"
     r"namedtuple|NamedTuple|TypedDict|TYPE_CHECKING|abstractmethod)\b|dataclass|overload|contextmanager")
 
+NAMES_OUT = set(
+    "register mro elements open input version_info with_traceback add_note attrgetter breakpoint builtins compile "
+    "copyright credits delattr dir eval exec exit gc getattr globals hasattr help id importlib license locals "
+    "methodcaller os quit setattr super type vars sys chr format format_map".split())
+
 
 def package_files():
     return sorted(path for path in PACKAGE.rglob("*") if "__pycache__" not in path.parts)
@@ -98,6 +103,52 @@ class Language(unittest.TestCase):
                     self.assertEqual(node.decorator_list, [])
                 if isinstance(node, ast.Call) and isinstance(node.func, ast.Attribute):
                     self.assertIn(node.func.attr, METHODS_OF_PYTHON | defined)
+
+    def test_names_that_are_not_used(self):
+        for text, tree in texts_and_trees():
+            for node in ast.walk(tree):
+                for field in ("id", "attr", "arg", "name"):
+                    self.assertNotIn(getattr(node, field, None), NAMES_OUT)
+
+    def test_no_name_is_a_method_and_a_value(self):
+        methods, values = set(), set()
+        for text, tree in texts_and_trees():
+            for node in ast.walk(tree):
+                if isinstance(node, ast.ClassDef):
+                    methods |= {row.name for row in node.body if isinstance(row, ast.FunctionDef)}
+                if isinstance(node, ast.Attribute) and isinstance(node.ctx, ast.Store):
+                    values.add(node.attr)
+        self.assertEqual(methods & values, set())
+
+    def test_no_local_is_called_like_an_import_or_a_class(self):
+        for text, tree in texts_and_trees():
+            taken = {name.name for row in tree.body if isinstance(row, ast.ImportFrom) for name in row.names}
+            taken |= {row.name for row in tree.body if isinstance(row, ast.ClassDef)}
+            for node in ast.walk(tree):
+                if isinstance(node, ast.Name) and isinstance(node.ctx, ast.Store):
+                    self.assertNotIn(node.id, taken)
+                if isinstance(node, ast.arg):
+                    self.assertNotIn(node.arg, taken)
+
+    def test_no_two_files_draw_from_one_another(self):
+        draws = {}
+        for path in package_files():
+            rows = ast.parse(path.read_text(encoding="utf-8")).body
+            draws["partfiles." + path.stem] = {row.module for row in rows if isinstance(row, ast.ImportFrom)}
+        while draws:
+            ready = [name for name, modules in draws.items() if not modules & set(draws)]
+            self.assertNotEqual(ready, [], f"in a ring: {sorted(draws)}")
+            for name in ready:
+                draws.pop(name)
+
+    def test_imports_are_from_the_file_that_defines_the_name(self):
+        for text, tree in texts_and_trees():
+            for row in tree.body:
+                if isinstance(row, ast.ImportFrom):
+                    source = (PACKAGE / (row.module.split(".")[1] + ".py")).read_text(encoding="utf-8")
+                    for name in row.names:
+                        self.assertRegex(source, rf"(?m)^(def {name.name}\(|class {name.name}[(:]|{name.name} = )")
+                        self.assertIn(name.name, text.split("\n\n", 2)[2])
 
 
 if __name__ == "__main__":
