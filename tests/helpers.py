@@ -146,7 +146,7 @@ def packed_form(name, data, **other):
 
 
 def run_orders(byte, how_many):
-    """Orders for so many of this byte (130 times some, and 4 or more): plain_pack takes long for long runs."""
+    """What a run of this byte packs to, where its last repeat is of 3 or more: plain_pack takes long for long runs."""
     return [0, byte] + [255, 0, 0] * ((how_many - 1) // 130) + [(how_many - 1) % 130 + 125, 0, 0]
 
 
